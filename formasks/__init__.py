@@ -1,0 +1,1 @@
+"""Forms: what is asked, and what is left to be answered."""

@@ -1,0 +1,30 @@
+"""The ways to fill in a form that are left."""
+
+from formasks.claims import one_holds
+
+
+def next_entries(way, size, conditions, given):
+    """What the question behind this way can have: 0, if it isn't asked, else an answer and 1."""
+    is_asked = len(conditions) == 0 or one_holds(conditions, way)
+    if given > 0:
+        # A way by which a given question isn't asked is not left.
+        return [given] if is_asked else []
+    if is_asked:
+        return list(range(1, size + 1))
+    return [0]
+
+
+def ways_left(sizes, conditions, nevers, given):
+    """All ways that are left, in order.
+
+    Of each question, sizes has how many answers there are, conditions the rows of claims
+    that are told for it, given 0 or the given answer and 1.
+    """
+    ways = [()]
+    for question in range(len(sizes)):
+        longer = []
+        for way in ways:
+            for entry in next_entries(way, sizes[question], conditions[question], given[question]):
+                longer.append(way + (entry,))
+        ways = longer
+    return [way for way in ways if not one_holds(nevers, way)]
