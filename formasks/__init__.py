@@ -1,1 +1,1 @@
-"""Forms: what is asked, and what is left to be answered."""
+"""Forms: what is asked, what follows from the answers, and how it is decided with little asking."""

@@ -47,3 +47,8 @@ def one_holds(rows, way):
         if claims_hold(claims, way):
             return True
     return False
+
+
+def is_asked(conditions, way):
+    """Whether a question with these rows of claims is asked by a way that goes up to it at least."""
+    return len(conditions) == 0 or one_holds(conditions, way)

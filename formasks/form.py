@@ -1,7 +1,9 @@
 """The interface: calls about one form, told in one list of whole numbers."""
 
 from formasks.building import add_asked, add_never, add_question, add_row, begin, tell_other
+from formasks.deciding import tell_needless, tell_next, tell_reason
 from formasks.giving import forget_answer, give_answer
+from formasks.looking import check_filled, tell_left, tell_results, tell_state
 from formasks.sheet import Sheet
 
 
@@ -27,6 +29,20 @@ def answer_call(sheet, call, numbers):
         return give_answer(sheet, numbers[0], numbers[1])
     if call == 7:
         return forget_answer(sheet, numbers[0])
+    if call == 8:
+        return tell_left(sheet)
+    if call == 9:
+        return tell_state(sheet, numbers[0])
+    if call == 10:
+        return tell_results(sheet)
+    if call == 11:
+        return check_filled(sheet, numbers)
+    if call == 12:
+        return tell_next(sheet, numbers[0])
+    if call == 13:
+        return tell_reason(sheet)
+    if call == 14:
+        return tell_needless(sheet)
     raise NoSuchCall("no such call")
 
 

@@ -1,17 +1,16 @@
 """The ways to fill in a form that are left."""
 
-from formasks.claims import one_holds
+from formasks.claims import is_asked, one_holds
 
 
 def next_entries(way, size, conditions, given):
     """What the question behind this way can have: 0, if it isn't asked, else an answer and 1."""
-    is_asked = len(conditions) == 0 or one_holds(conditions, way)
-    if given > 0:
+    if not is_asked(conditions, way):
         # A way by which a given question isn't asked is not left.
-        return [given] if is_asked else []
-    if is_asked:
-        return list(range(1, size + 1))
-    return [0]
+        return [0] if given == 0 else []
+    if given > 0:
+        return [given]
+    return list(range(1, size + 1))
 
 
 def ways_left(sizes, conditions, nevers, given):

@@ -147,3 +147,27 @@ class Language(unittest.TestCase):
             else:
                 self.assertNotIn(node.attr, own, name)
                 self.assertNotIn(node.attr, OWN_VALUES_HAVE, name)
+
+    def test_sets_and_walks_stand_where_they_may(self):
+        held = set()
+        walked = set()
+        for name, node in nodes(ast.Call, ast.For, ast.comprehension):
+            if isinstance(node, (ast.For, ast.comprehension)):
+                walked.add(id(node.iter))
+            elif isinstance(node.func, ast.Name) and node.args:
+                if node.func.id in ("sorted", "len") and not node.keywords:
+                    held.add(id(node.args[0]))
+                if node.func.id in ("list", "tuple", "dict", "sorted", "sum", "any", "all", "enumerate", "zip"):
+                    walked.add(id(node.args[0]))
+        for name, node in nodes(ast.Call):
+            called = getattr(node.func, "id", None) or getattr(node.func, "attr", None)
+            if called in ("set", "frozenset"):
+                self.assertIn(id(node), held, f"{name}: {ast.unparse(node)}")
+            if called in ("zip", "enumerate", "reversed", "range", "items", "keys", "values"):
+                self.assertIn(id(node), walked, f"{name}: {ast.unparse(node)}")
+
+    def test_no_name_is_a_method_and_a_value(self):
+        methods = [part.name for name, node in nodes(ast.ClassDef) for part in node.body
+                   if isinstance(part, ast.FunctionDef) and part.name not in DUNDERS]
+        given = {node.attr for name, node in nodes(ast.Attribute) if isinstance(node.ctx, ast.Store)}
+        self.assertEqual(set(methods) & given, set())

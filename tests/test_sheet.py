@@ -1,4 +1,4 @@
-"""What is told and kept, though none of the calls so far answers it: burdens, rows and the other result."""
+"""What is kept of what is told, and that refusals change nothing of it."""
 
 import unittest
 
