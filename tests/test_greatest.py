@@ -7,7 +7,7 @@ from tests.helper import (
     answer, asked, check, forget, left, needless, never, other, question, reason, results, row, run, state, together,
     worst)
 
-GOOD_TIME = 10
+GOOD_TIME = 6
 
 
 def claims_of_all(*sets):
@@ -23,6 +23,9 @@ ASKED = [asked(q, *[number for before in range(q) for number in (before, chosen)
 NEVERS = [never(*claims_of_all(*[1 << number % 3] * 4, 1 << number // 3 % 3, 1 << number // 9)) for number in range(10)]
 ROWS = [row(number % 10, *claims_of_all(*[7] * 3, 1 << number % 3, 1 << number // 3 % 3, 3 if number < 9 else 1))
         for number in range(12)]
+# Rows that overlap so that hardly anything is decided before the last questions.
+WIDE_ROWS = [row(number % 10, *claims_of_all(*[(3, 5, 6)[(number // (1 + q % 3) + q) % 3] for q in range(6)]))
+             for number in range(12)]
 GREATEST_FORM = [*SIX, *ASKED, *NEVERS, *ROWS, other(9)]
 
 
@@ -35,13 +38,19 @@ class Greatest(unittest.TestCase):
         self.assertEqual(told[-5:], [[719, 1, 1, 1, 1, 1, 3], [10, *range(10)], [2, 0, 1, 2], [1, 3, 0], [0, 9]])
 
     def test_twelve_calls_in_good_time(self):
-        for twelve in ([worst()] * 12, [together()] * 12, [reason()] * 12, [needless()] * 12,
-                       [worst(), together(), reason(), needless()] * 3):
-            with self.subTest(first=twelve[0]):
+        told_for = [(worst(), [288, 3]), (together(), [160173, 5]), (reason(), [-7]), (needless(), [3, 0, 1, 2])]
+        for twelve in ([told_for[0]] * 12, [told_for[1]] * 12, [told_for[2]] * 12, [told_for[3]] * 12, told_for * 3):
+            with self.subTest(twelve=twelve):
                 begun = time.monotonic()
-                told = run(*GREATEST_FORM, *twelve)
+                told = run(*GREATEST_FORM, *[one for one, answered in twelve])
                 self.assertLess(time.monotonic() - begun, GOOD_TIME)
-                self.assertEqual(told[-12:], told[-12:-8] * 3)
+                self.assertEqual(told[-12:], [answered for one, answered in twelve])
+
+    def test_twelve_calls_where_little_is_decided(self):
+        begun = time.monotonic()
+        told = run(*SIX, *WIDE_ROWS, other(9), *[worst(), together()] * 6)
+        self.assertLess(time.monotonic() - begun, GOOD_TIME)
+        self.assertEqual(told[-12:], [[585, 0], [398181, 3]] * 6)
 
     def test_twelve_calls_with_all_given_but_forgotten_in_between(self):
         given = [answer(q, 2) for q in range(6)]

@@ -67,4 +67,5 @@ class Results(unittest.TestCase):
         self.assertEqual(end(other(4), begins(), results()), [1, 0])
 
     def test_refused_rows_change_nothing(self):
-        self.assertEqual(end(*TWO, row(1, 0, 1), row(10, 0, 2), row(2, 0, 4), row(3, 2, 1), row(4), results()), [2, 0, 1])
+        refused = [row(10, 0, 2), row(2, 0, 4), row(3, 2, 1), row(4), other(10)]
+        self.assertEqual(end(*TWO, row(1, 0, 1), *refused, results()), [2, 0, 1])
