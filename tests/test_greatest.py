@@ -38,6 +38,7 @@ class Greatest(unittest.TestCase):
         self.assertEqual(told[-5:], [[719, 1, 1, 1, 1, 1, 3], [10, *range(10)], [2, 0, 1, 2], [1, 3, 0], [0, 9]])
 
     def test_twelve_calls_in_good_time(self):
+        # Too long to work out by hand: the slow form answers the same, but takes some seconds for each.
         told_for = [(worst(), [288, 3]), (together(), [160173, 5]), (reason(), [-7]), (needless(), [3, 0, 1, 2])]
         for twelve in ([told_for[0]] * 12, [told_for[1]] * 12, [told_for[2]] * 12, [told_for[3]] * 12, told_for * 3):
             with self.subTest(twelve=twelve):
@@ -50,6 +51,7 @@ class Greatest(unittest.TestCase):
         begun = time.monotonic()
         told = run(*SIX, *WIDE_ROWS, other(9), *[worst(), together()] * 6)
         self.assertLess(time.monotonic() - begun, GOOD_TIME)
+        # As above, the slow form answers the same.
         self.assertEqual(told[-12:], [[585, 0], [398181, 3]] * 6)
 
     def test_twelve_calls_with_all_given_but_forgotten_in_between(self):
